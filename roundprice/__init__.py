@@ -1,0 +1,1 @@
+"""Roundprice: chains of rounded prices, told for every price and backwards."""
