@@ -21,6 +21,10 @@ StopIteration""".split()
 
 SPECIAL = ("__init__", "__eq__", "__repr__", "__str__", "__len__")
 
+METHODS = """append clear copy count endswith extend find get index insert isalnum isalpha isdigit islower isspace
+isupper items join keys ljust lower lstrip partition pop remove replace reverse rfind rjust rpartition rsplit rstrip
+setdefault split splitlines startswith strip update upper values zfill bit_length""".split()
+
 WORDS_LEFT_OUT = re.compile(r"\b(type|typing|typing_extensions|enum|Enum|IntEnum|StrEnum|Flag|IntFlag|Generic|Protocol"
                             r"|ABC|ABCMeta|namedtuple|NamedTuple|TypedDict|TYPE_CHECKING|abstractmethod)\b"
                             r"|dataclass|overload|contextmanager")
@@ -46,6 +50,15 @@ def bound_names(node):
     if isinstance(node, ast.alias):
         return [node.asname or node.name]
     return []
+
+
+def own_attributes():
+    """The names of the package's own methods, and of the values that its objects are given."""
+    methods = [node.name for name, holder in nodes() if isinstance(holder, ast.ClassDef) for node in holder.body
+               if isinstance(node, ast.FunctionDef)]
+    values = [node.attr for name, node in nodes()
+              if isinstance(node, ast.Attribute) and isinstance(node.ctx, ast.Store)]
+    return (methods, values)
 
 
 class Files(unittest.TestCase):
@@ -107,6 +120,81 @@ class Code(unittest.TestCase):
         for name, node in nodes():
             if isinstance(node, ast.Assign):
                 self.assertEqual(len(node.targets), 1, (name, node.lineno))
+                self.assertNotIsInstance(node.targets[0], (ast.Tuple, ast.List), (name, node.lineno))
+
+    def test_comprehensions(self):
+        for name, node in nodes():
+            if isinstance(node, ast.ListComp):
+                self.assertEqual(len(node.generators), 1, (name, node.lineno))
+                self.assertLessEqual(len(node.generators[0].ifs), 1, (name, node.lineno))
+
+    def test_no_else_behind_a_loop_and_no_finally(self):
+        for name, node in nodes():
+            if isinstance(node, (ast.For, ast.While)):
+                self.assertEqual(node.orelse, [], (name, node.lineno))
+            if isinstance(node, ast.Try):
+                self.assertEqual(node.finalbody, [], (name, node.lineno))
+
+    def test_attributes(self):
+        methods, values = own_attributes()
+        self.assertEqual(set(methods) & set(values), set())
+        for name, node in nodes():
+            if isinstance(node, ast.Attribute):
+                self.assertIn(node.attr, METHODS + methods + values, (name, node.lineno))
+
+    def test_is_stands_beside_none_true_and_false(self):
+        for name, node in nodes():
+            if isinstance(node, ast.Compare) and any(isinstance(sign, (ast.Is, ast.IsNot)) for sign in node.ops):
+                sides = [side.value for side in [node.left] + node.comparators if isinstance(side, ast.Constant)]
+                self.assertTrue(any(side in (None, True, False) for side in sides), (name, node.lineno))
+
+    def test_written_exponents(self):
+        for name, node in nodes():
+            if isinstance(node, ast.BinOp) and isinstance(node.op, ast.Pow):
+                self.assertIsInstance(node.right, ast.Constant, (name, node.lineno))
+                self.assertLessEqual(node.right.value, 64, (name, node.lineno))
+
+
+class Modules(unittest.TestCase):
+    def test_what_stands_at_the_top(self):
+        for path in files():
+            body = ast.parse(path.read_text("ascii")).body
+            self.assertIsNotNone(ast.get_docstring(ast.Module(body, [])), path.name)
+            for node in body[1:]:
+                self.assertIn(type(node), (ast.ImportFrom, ast.FunctionDef, ast.ClassDef, ast.Assign), path.name)
+                if isinstance(node, ast.Assign):
+                    ast.literal_eval(node.value)
+
+    def test_no_local_is_called_like_an_import_a_def_or_a_class(self):
+        for path in files():
+            tree = ast.parse(path.read_text("ascii"))
+            top = [bound for node in tree.body for part in [node] + getattr(node, "names", [])
+                   for bound in bound_names(part)]
+            self.assertEqual(len(top), len(set(top)), path.name)
+            for node in ast.walk(tree):
+                if isinstance(node, ast.arg) or isinstance(node, ast.Name) and isinstance(node.ctx, ast.Store):
+                    if node not in [target for part in tree.body for target in getattr(part, "targets", [])]:
+                        self.assertNotIn(bound_names(node)[0], top, (path.name, node.lineno))
+
+    def test_no_two_files_draw_from_one_another(self):
+        drawn = {}
+        for path in files():
+            tree = ast.parse(path.read_text("ascii"))
+            drawn[path.stem] = {node.module.split(".")[1] for node in tree.body if isinstance(node, ast.ImportFrom)}
+        while drawn:
+            free = [name for name in drawn if not drawn[name] & set(drawn)]
+            self.assertTrue(free, drawn)
+            for name in free:
+                del drawn[name]
+
+    def test_names_are_drawn_from_the_file_that_defines_them(self):
+        for name, node in nodes():
+            if isinstance(node, ast.ImportFrom):
+                source = ast.parse((PACKAGE / (node.module.split(".")[1] + ".py")).read_text("ascii"))
+                defined = [bound for part in source.body for piece in [part] + getattr(part, "targets", [])
+                           for bound in bound_names(piece)]
+                for alias in node.names:
+                    self.assertIn(alias.name, defined, (name, node.lineno))
 
 
 if __name__ == "__main__":

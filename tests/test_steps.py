@@ -2,43 +2,17 @@
 
 import unittest
 from fractions import Fraction
-from math import floor, gcd
+from math import gcd
 
 from roundprice.steps import WAYS, WORDS, after, own_cycle, rounded, share
+
+from told import steps_of, told_after, told_rounded, told_share
 
 NUMBERS = (0, 1, 2, 3, 4, 5, 7, 12, 49, 50, 51, 99, 100, 101, 149, 150, 151, 12345, 10 ** 30, 10 ** 61 + 49,
            10 ** 61 + 50, 7 ** 90)
 PENNIES = (0, 1, 49, 50, 99, 100, 1234567, 10 ** 30 - 1, 10 ** 30)
 AMOUNTS = (0, 1, 2, 3, 49, 50, 51, 99, 100, 101, 1999, 10 ** 30, 10 ** 30 + 1, 10 ** 45 - 1, 3 ** 140)
 SHARES = ((1, 1), (1, 2), (2, 4), (1, 3), (2, 3), (4, 6), (3, 100), (50, 100), (99, 100), (7, 12), (19, 20))
-
-
-def told_share(word, n, d):
-    """The share by the document's words, as a Fraction."""
-    return {"times": Fraction(n, d), "add": Fraction(d + n, d), "off": Fraction(d - n, d)}[word]
-
-
-def told_rounded(value, unit, way):
-    """The rounding by the document's words: the multiples on both sides are looked at."""
-    below = floor(value / unit) * unit
-    if below == value:
-        return below
-    above = below + unit
-    if way == "near":
-        return below if value - below < above - value else above
-    return {"down": below, "up": above}[way]
-
-
-def told_after(step, amount):
-    word, n, d, pennies, way, unit = step
-    return told_rounded(amount * told_share(word, n, d) + pennies, unit, way)
-
-
-def steps_of(shares, pennies, units):
-    """All steps of these, with every word and every way; an off whose n is not less than d is left out."""
-    return [(word, n, d, more, way, unit)
-            for word in WORDS for n, d in shares if word != "off" or n < d
-            for more in pennies for way in WAYS for unit in units]
 
 
 class Names(unittest.TestCase):

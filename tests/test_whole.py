@@ -1,9 +1,9 @@
-"""Greatest common divisors and lowest terms."""
+"""Greatest common divisors, lowest terms and prime factors."""
 
 import math
 import unittest
 
-from roundprice.whole import common_divisor, lowest
+from roundprice.whole import common_divisor, lowest, prime_factors
 
 
 class CommonDivisor(unittest.TestCase):
@@ -28,6 +28,23 @@ class Lowest(unittest.TestCase):
     def test_nought(self):
         self.assertEqual(lowest(0, 1), (0, 1))
         self.assertEqual(lowest(0, 36), (0, 1))
+
+
+class PrimeFactors(unittest.TestCase):
+    def test_some(self):
+        self.assertEqual(prime_factors(1), [])
+        self.assertEqual(prime_factors(2), [2])
+        self.assertEqual(prime_factors(97), [97])
+        self.assertEqual(prime_factors(49), [7, 7])
+        self.assertEqual(prime_factors(20000), [2, 2, 2, 2, 2, 5, 5, 5, 5])
+
+    def test_they_multiply_to_the_number_and_none_can_be_parted(self):
+        for number in range(1, 2001):
+            factors = prime_factors(number)
+            self.assertEqual(math.prod(factors), number)
+            self.assertEqual(factors, sorted(factors))
+            for prime in factors:
+                self.assertTrue(prime > 1 and all(prime % part > 0 for part in range(2, prime)), number)
 
 
 if __name__ == "__main__":
