@@ -2,7 +2,7 @@
 
 
 def common_divisor(one, other):
-    """The greatest common divisor of one, from 0 on, and other, from 1 on."""
+    """The greatest common divisor of one, any whole number, and other, from 1 on."""
     while other > 0:
         rest = one % other
         one = other
@@ -11,7 +11,7 @@ def common_divisor(one, other):
 
 
 def lowest(num, den):
-    """The fraction num / den, den from 1 on, as a tuple (num, den) in lowest terms."""
+    """The fraction num / den, num any whole number and den from 1 on, as a tuple (num, den) in lowest terms."""
     divisor = common_divisor(num, den)
     return (num // divisor, den // divisor)
 

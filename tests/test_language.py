@@ -52,6 +52,11 @@ def bound_names(node):
     return []
 
 
+def place(node):
+    """Where the node stands, and what it says."""
+    return (node.lineno, node.col_offset, ast.dump(node))
+
+
 def own_attributes():
     """The names of the package's own methods, and of the values that its objects are given."""
     methods = [node.name for name, holder in nodes() if isinstance(holder, ast.ClassDef) for node in holder.body
@@ -141,6 +146,21 @@ class Code(unittest.TestCase):
         for name, node in nodes():
             if isinstance(node, ast.Attribute):
                 self.assertIn(node.attr, METHODS + methods + values, (name, node.lineno))
+
+    def test_walked_at_once(self):
+        walked = ("range", "zip", "enumerate", "reversed", "items", "keys", "values")
+        takers = ("list", "tuple", "dict", "sorted", "sum", "any", "all", "enumerate", "zip", "min", "max")
+        fitting = []
+        for name, node in nodes():
+            if isinstance(node, (ast.For, ast.comprehension)):
+                fitting.append(place(node.iter))
+            if isinstance(node, ast.Call) and isinstance(node.func, ast.Name) and node.func.id in takers and node.args:
+                fitting.append(place(node.args[0]))
+        for name, node in nodes():
+            if isinstance(node, ast.Call):
+                called = getattr(node.func, "id", getattr(node.func, "attr", None))
+                if called in walked:
+                    self.assertIn(place(node), fitting, (name, node.lineno))
 
     def test_is_stands_beside_none_true_and_false(self):
         for name, node in nodes():

@@ -12,6 +12,11 @@ class CommonDivisor(unittest.TestCase):
             for other in range(1, 61):
                 self.assertEqual(common_divisor(one, other), math.gcd(one, other), (one, other))
 
+    def test_below_nought(self):
+        for one in range(-60, 0):
+            for other in range(1, 61):
+                self.assertEqual(common_divisor(one, other), math.gcd(one, other), (one, other))
+
     def test_great_ones(self):
         self.assertEqual(common_divisor(6 * 10 ** 80, 4 * 10 ** 75), 2 * 10 ** 75 * math.gcd(3 * 10 ** 5, 2))
         self.assertEqual(common_divisor(10 ** 90 + 1, 10 ** 90), 1)
@@ -24,6 +29,11 @@ class Lowest(unittest.TestCase):
         self.assertEqual(lowest(3, 5), (3, 5))
         self.assertEqual(lowest(12, 1), (12, 1))
         self.assertEqual(lowest(10 ** 70, 4 * 10 ** 69), (5, 2))
+
+    def test_below_nought(self):
+        self.assertEqual(lowest(-6, 4), (-3, 2))
+        self.assertEqual(lowest(-3, 5), (-3, 5))
+        self.assertEqual(lowest(-12, 4), (-3, 1))
 
     def test_nought(self):
         self.assertEqual(lowest(0, 1), (0, 1))
