@@ -480,7 +480,8 @@ class Apart(Watched):
 
 
 class ToldHouse:
-    """A house by the document's words alone, that looks through all it was told each time."""
+    """A house by the document's words, that looks through all it was told each time; its ends are told_end's, but
+    reading, origins and partings are the program's own, which other tests hold against the document."""
 
     def __init__(self):
         self.issues = []
